@@ -1,0 +1,1 @@
+"""Trends: measurements kept as summaries, in cells of four widths."""
