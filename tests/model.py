@@ -20,6 +20,18 @@ def ask(channel, a, b):
     return [3, channel, a, b]
 
 
+def cells(channel, level, number, most):
+    return [4, channel, level, number, most]
+
+
+def known(channel):
+    return [5, channel]
+
+
+def forget(channel):
+    return [6, channel]
+
+
 def split(numbers):
     """The answers one by one; fails if the counts don't fit the list."""
     found = []
@@ -78,12 +90,13 @@ class Model:
         self.widths = [width, width * times1, width * times1 * times2, width * times1 * times2 * times3]
         self.kept = kept
         self.measurements = {}
+        return [0]
 
     def add(self, channel, time, value, marks):
-        known = self.measurements.setdefault(channel, [])
-        if known and time < known[-1][0]:
+        had = self.measurements.setdefault(channel, [])
+        if had and time < had[-1][0]:
             return [-4]
-        known.append((time, value, marks))
+        had.append((time, value, marks))
         return [0]
 
     def is_kept(self, level, number, last):
@@ -102,18 +115,51 @@ class Model:
         raise AssertionError(f"no cell is kept at {at}")
 
     def ask(self, channel, a, b):
-        known = self.measurements.get(channel, [])
-        if not known:
+        had = self.measurements.get(channel, [])
+        if not had:
             return [-2]
-        last = known[-1][0]
+        last = had[-1][0]
         oldest = max(0, last // self.widths[3] - self.kept[3] + 1)
         at = max(a, oldest * self.widths[3])
         y = min(b, last // self.widths[0] * self.widths[0] + self.widths[0])
         if y <= at:
             return [-2]
-        cells = []
+        covering = []
         while at < y:
-            cells.append(self.cell_at(at, y, last))
-            at = cells[-1][1]
-        covered = [one for cell in cells for one in known if cell[0] <= one[0] < cell[1]]
-        return [0, cells[0][0], cells[-1][1], len(cells)] + summary(covered)
+            covering.append(self.cell_at(at, y, last))
+            at = covering[-1][1]
+        covered = [one for cell in covering for one in had if cell[0] <= one[0] < cell[1]]
+        return [0, covering[0][0], covering[-1][1], len(covering)] + summary(covered)
+
+    def stored(self, channel, level):
+        """The measurements of each kept cell that has some, by its number."""
+        found = {}
+        had = self.measurements.get(channel, [])
+        for one in had:
+            number = one[0] // self.widths[level]
+            if self.is_kept(level, number, had[-1][0]):
+                found.setdefault(number, []).append(one)
+        return found
+
+    def cells(self, channel, level, number, most):
+        found = self.stored(channel, level)
+        numbers = sorted(n for n in found if n >= number)[:most]
+        answer = [len(numbers)]
+        for n in numbers:
+            answer += [n] + summary(found[n])
+        return answer
+
+    def known(self, channel):
+        had = self.measurements.get(channel, [])
+        if not had:
+            return [-2]
+        last = had[-1][0]
+        answer = [0, last]
+        for level in (0, 1, 2, 3):
+            oldest = last // self.widths[level] - self.kept[level] + 1
+            answer += [max(0, oldest) * self.widths[level], len(self.stored(channel, level))]
+        return answer
+
+    def forget(self, channel):
+        self.measurements[channel] = []
+        return [0]

@@ -1,9 +1,9 @@
-"""Points 1 to 3 together: many made-up lists against a plain model."""
+"""All calls together: many made-up lists against a plain model."""
 
 import random
 import unittest
 
-from model import FIRST, NONE, TOP, Model, add, ask, begin, run
+from model import FIRST, NONE, TOP, Model, add, ask, begin, cells, forget, known, run
 
 
 def made_setting(rng):
@@ -37,34 +37,98 @@ def made_stretch(rng, widths, last):
     return min(ends), max(ends)
 
 
+def made_number(rng, widths, level, last):
+    """Mostly around the kept cells, at times far ahead of them or behind."""
+    newest = last // widths[level]
+    return rng.choice((0, max(0, newest - rng.randint(-1, 8)), max(0, newest - rng.randint(0, 3)), 2 ** 64 - 1))
+
+
 class Random(unittest.TestCase):
-    def check(self, seed, setting):
-        rng = random.Random(seed)
-        model = Model()
-        model.begin(*setting)
-        calls = [begin(*setting)]
-        expected = [[0]]
-        lasts = {0: rng.choice((0, 0, 12345)), 5: 0}
+    def take(self, call, answer):
+        self.calls.append(call)
+        self.expected.append(answer)
+
+    def start(self, seed, setting):
+        self.rng = random.Random(seed)
+        self.model = Model()
+        self.calls = []
+        self.expected = []
+        self.take(begin(*setting), self.model.begin(*setting))
+        self.lasts = {0: self.rng.choice((0, 0, 12345)), 5: 0}
+
+    def compare(self, seed):
+        self.assertEqual(run(*self.calls), self.expected, (seed, self.calls))
+
+    def add(self, channel):
+        self.lasts[channel] += made_step(self.rng, self.model.widths)
+        back = self.rng.choice((0,) * 19 + (1,))
+        time = max(0, self.lasts[channel] - back)
+        numbers = (channel, time, made_value(self.rng), self.rng.randint(0, 255))
+        self.take(add(*numbers), self.model.add(*numbers))
+
+    def ask(self, channel):
+        a, b = made_stretch(self.rng, self.model.widths, self.lasts[channel])
+        self.take(ask(channel, a, b), self.model.ask(channel, a, b) if a < b else [-1])
+
+    def cells(self, channel):
+        level = self.rng.randrange(4)
+        number = made_number(self.rng, self.model.widths, level, self.lasts[channel])
+        most = self.rng.choice((0, 1, 2, 3, 5, 4096, 2 ** 64 - 1))
+        self.take(cells(channel, level, number, most), self.model.cells(channel, level, number, most))
+
+    def known(self, channel):
+        self.take(known(channel), self.model.known(channel))
+
+    def forget(self, channel):
+        self.lasts[channel] = self.rng.randint(0, self.lasts[channel])
+        self.take(forget(channel), self.model.forget(channel))
+
+    def begin(self, setting):
+        self.lasts = {0: 0, 5: 0}
+        self.take(begin(*setting), self.model.begin(*setting))
+
+    def refused(self, channel):
+        """Wrong numbers, all else being good: all stays as it was."""
+        self.take(self.rng.choice((
+            begin(0, 2, 2, 2, 2, 2, 2, 2), begin(10, 2, 2, 2, 3, 2, 2, 2), add(64, 5, 1),
+            add(channel, self.lasts[channel], TOP + 1), add(channel, TOP + 1, 1), ask(channel, 5, 5),
+            ask(channel, 0, TOP + 1), cells(channel, 4, 0, 9), cells(64, 0, 0, 9), known(64), forget(64),
+        )), [-1])
+
+    def check_stretches(self, seed, setting):
+        self.start(seed, setting)
         for place in range(40):
-            channel = rng.choice((0, 0, 0, 5))
-            if rng.random() < 0.6:
-                lasts[channel] += made_step(rng, model.widths)
-                numbers = (channel, lasts[channel], made_value(rng), rng.randint(0, 255))
-                calls.append(add(*numbers))
-                expected.append(model.add(*numbers))
+            channel = self.rng.choice((0, 0, 0, 5))
+            if self.rng.random() < 0.6:
+                self.add(channel)
             else:
-                a, b = made_stretch(rng, model.widths, lasts[channel])
-                calls.append(ask(channel, a, b))
-                expected.append(model.ask(channel, a, b) if a < b else [-1])
-        self.assertEqual(run(*calls), expected, (seed, calls))
+                self.ask(channel)
+        self.compare(seed)
+
+    def check_all(self, seed, setting):
+        self.start(seed, setting)
+        for place in range(60):
+            channel = self.rng.choice((0, 0, 0, 5))
+            call = self.rng.choice(
+                [self.add] * 30 + [self.ask] * 8 + [self.cells] * 12 + [self.known] * 6 + [self.forget] * 2
+                + [self.refused] * 3)
+            call(channel)
+            if self.rng.random() < 0.01:
+                self.begin(made_setting(self.rng))
+        self.compare(seed)
 
     def test_made_settings(self):
         for seed in range(1500):
-            self.check(seed, made_setting(random.Random(-seed - 1)))
+            self.check_stretches(seed, made_setting(random.Random(-seed - 1)))
+
+    def test_made_settings_all_calls(self):
+        for seed in range(1500):
+            self.check_all(seed, made_setting(random.Random(-seed - 1)))
 
     def test_what_is_set_at_first(self):
         for seed in range(20):
-            self.check(seed, FIRST)
+            self.check_stretches(seed, FIRST)
+            self.check_all(seed, FIRST)
 
 
 if __name__ == "__main__":

@@ -24,6 +24,14 @@ class Channel:
         y = min(b, self.levels[0].end_of(self.last))
         return cover(self.levels, x, y)
 
+    def told_levels(self):
+        """Of each level the beginning of the oldest kept cell, and how many have measurements."""
+        numbers = []
+        for level in self.levels:
+            numbers.append(level.beginning())
+            numbers.append(len(level.summaries))
+        return numbers
+
 
 def told_runs(runs):
     """From when, till when, from how many cells, and the summary of all runs together."""
@@ -33,3 +41,13 @@ def told_runs(runs):
             together.take_in(summary)
     cells = sum([run.many for run in runs])
     return [runs[0].begins(), runs[-1].ends(), cells] + together.told()
+
+
+def told_cells(level, number, most):
+    """How many cells are told, then the number and the summary of each."""
+    numbers = level.numbers_from(number, most)
+    answer = [len(numbers)]
+    for cell in numbers:
+        answer.append(cell)
+        answer.extend(level.summaries[cell].told())
+    return answer

@@ -31,7 +31,7 @@ class Level:
             self.summaries.pop(number)
 
     def beginning(self):
-        """The beginning of the oldest kept cell."""
+        """The beginning of the oldest kept cell; 0 if none was dropped yet."""
         return self.oldest * self.width
 
     def keeps(self, time):
@@ -49,6 +49,11 @@ class Level:
         else:
             numbers = [n for n in self.summaries if number <= n < number + many]
         return [self.summaries[n] for n in numbers]
+
+    def numbers_from(self, number, most):
+        """The first most numbers of cells with measurements from number on, rising."""
+        # Times never fall, so the stored numbers rise as they stand.
+        return [n for n in self.summaries if n >= number][:most]
 
 
 class Run:

@@ -1,14 +1,17 @@
 """The station and its calls."""
 
-from trendcells.channel import Channel, told_runs
+from trendcells.channel import Channel, told_cells, told_runs
 from trendcells.summary import GREATEST, NO_VALUE
 
-# Numbers of calls; ask is the one that is left.
+# Numbers of calls; forget, 6, is the one that is left.
 BEGIN = 1
 ADD = 2
+ASK = 3
+CELLS = 4
+KNOWN = 5
 
-# How many numbers stand behind a call's own: begin, add, ask.
-GIVEN = {1: 8, 2: 4, 3: 3}
+# How many numbers stand behind a call's own: begin, add, ask, cells, known, forget.
+GIVEN = {1: 8, 2: 4, 3: 3, 4: 4, 5: 1, 6: 1}
 
 NOT_IN_RANGE = -1
 NOTHING_KNOWN = -2
@@ -41,7 +44,13 @@ def answer_of(station, call, given):
         return station.begin(given[0], given[1:4], given[4:8])
     if call == ADD:
         return station.add(given[0], given[1], given[2], given[3])
-    return station.ask(given[0], given[1], given[2])
+    if call == ASK:
+        return station.ask(given[0], given[1], given[2])
+    if call == CELLS:
+        return station.cells(given[0], given[1], given[2], given[3])
+    if call == KNOWN:
+        return station.known(given[0])
+    return station.forget(given[0])
 
 
 class Station:
@@ -81,6 +90,27 @@ class Station:
             return [NOTHING_KNOWN]
         return [0] + told_runs(runs)
 
+    def cells(self, channel, level, number, most):
+        if not is_channel(channel) or not is_level(level):
+            return [NOT_IN_RANGE]
+        if channel not in self.channels:
+            return [0]
+        return told_cells(self.channels[channel].levels[level], number, most)
+
+    def known(self, channel):
+        if not is_channel(channel):
+            return [NOT_IN_RANGE]
+        if channel not in self.channels:
+            return [NOTHING_KNOWN]
+        return [0, self.channels[channel].last] + self.channels[channel].told_levels()
+
+    def forget(self, channel):
+        if not is_channel(channel):
+            return [NOT_IN_RANGE]
+        if channel in self.channels:
+            self.channels.pop(channel)
+        return [0]
+
 
 def widths_from(width, times):
     """The widths of all levels: each next one is so many times the one before."""
@@ -115,6 +145,10 @@ def can_ask(channel, a, b):
 
 def is_channel(number):
     return 0 <= number <= 63
+
+
+def is_level(number):
+    return 0 <= number <= 3
 
 
 def is_time(number):
